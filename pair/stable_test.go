@@ -24,6 +24,10 @@ func TestStableByLists(t *testing.T) {
 			}
 		}
 		same(t, fmt.Sprint(s), show(pair.Stable(s.l, s.r, s.u)), ok(best))
+		// Stable relies on this, which the chapter does not say.
+		if len(stable) != 1 {
+			t.Error(s, stable)
+		}
 	}
 }
 
